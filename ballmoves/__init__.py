@@ -1,0 +1,1 @@
+"""Ballmoves: fractions that are near by a prime, their balls as one tree, and moves of it."""
