@@ -6,7 +6,7 @@ import unittest
 FOLDER = os.path.join(os.path.dirname(os.path.abspath(__file__)), "examples")
 
 # The order of the interface: later examples use the names that earlier ones set.
-HEADINGS = ["errors", "fractions", "points", "primes", "digits"]
+HEADINGS = ["errors", "fractions", "points", "primes", "digits", "balls", "roads", "middles", "moves", "texts", "leads"]
 
 
 def read_examples(heading):

@@ -12,6 +12,20 @@ INTERFACE = {
     "points": ["point(x, y)", "is_point(value)", "point_of(x)", "fraction_of(p)"],
     "primes": ["is_prime(value)", "primes_of(n)", "parts(p, x)", "rest(p, k, x)"],
     "digits": ["digits(p, x)", "judge_digits(p, value)", "fraction_by(p, value)", "digit(p, x, i)"],
+    "balls": ["is_ball(p, value)", "ball(p, n, x)", "has(p, ball, x)", "is_in(p, one, other)", "about(p, ball)",
+              "within(p, ball)", "neighbours(p, ball)", "least_about(p, one, other)"],
+    "roads": ["road(p, one, other)", "steps(p, one, other)", "on_road(p, one, other, k)", "fork(p, one, other, third)",
+              "towards(p, ball, point, k)", "is_side(p, value)", "on_side(p, side, ball)", "are_apart(p, one, other)",
+              "lies_in(p, one, other)", "least_tree(p, balls)"],
+    "middles": ["far(p, balls, ball)", "reach(p, balls)", "middle(p, balls)", "total(p, balls, ball)",
+                "least_total(p, balls)", "hang_together(p, balls)", "leaves(p, tree)", "peeled(p, tree)",
+                "pieces(p, tree, ball)", "cut(p, tree, side)"],
+    "moves": ["move(a, b, c, d)", "is_move(value)", "led_point(m, q)", "after(one, other)", "back(m)", "power(m, n)",
+              "size(m)", "sum_of(m)", "three(points, others)"],
+    "texts": ["fraction_text(x)", "point_text(q)", "ball_text(ball)", "move_text(m)", "word_text(word)",
+              "list_text(moves)", "read_fraction(text)", "read_point(text)", "read_ball(p, text)", "read_move(text)",
+              "read_word(text)", "read_list(text)"],
+    "leads": ["led(p, m, ball)", "told_at(p, m, ball)", "moving(p, one, other)"],
 }
 
 
