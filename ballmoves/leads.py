@@ -10,13 +10,14 @@ def led(p, m, ball):
     """The ball to which a move leads a ball."""
     a, b, c, d = m
     n, q = ball
-    top = (a * q[0] + b * q[1], q[1])
-    low = (c * q[0] + d * q[1], q[1])
+    top = a * q[0] + b * q[1]
+    low = c * q[0] + d * q[1]
     times = n + times_in(p, size(m))
-    # Of the grid's two led columns the one with fewer parts in its lower row stays, the other one's goes.
-    if low[0] == 0 or c != 0 and not has_parts(p, (c, 1), parts(p, low) - n):
+    # The grid's columns (p ** n, 0) and (q, 1) are led to (a p ** n, c p ** n) and (top, low). The one whose lower
+    # number has fewer parts tells the ball's place; times of it, taken away, leave the other one no lower number.
+    if low == 0 or not has_parts(p, (c, 1), parts(p, (low, q[1])) - n):
         return ball_at(p, times - 2 * (times_in(p, c) + n), fraction(a, c))
-    return ball_at(p, times - 2 * parts(p, low), fraction(top[0], low[0]))
+    return ball_at(p, times - 2 * parts(p, (low, q[1])), fraction(top, low))
 
 
 def grid_move(p, ball):

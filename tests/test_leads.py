@@ -45,7 +45,7 @@ def makes_alike(p, table):
 class Led(unittest.TestCase):
     def test_grids_are_alike(self):
         for p in (2, 3, 97):
-            for m in MOVES + [(p, 0, 0, 1), (1, 0, p, p ** 2), (1, p, p ** 3, -1)]:
+            for m in MOVES + [(p, 0, 0, 1), (1, 0, p, p ** 2), (1, p, p ** 3, -1), (1, 0, 1, p ** 3), (1, 1, 1, -p ** 4)]:
                 for one in some_balls(p):
                     found = led(p, m, one)
                     self.assertTrue(is_ball(p, found), (p, m, one))

@@ -39,6 +39,19 @@ class Middles(unittest.TestCase):
                 same(self, unchanged(self, middle, p, balls), expected)
                 same(self, middle(p, tuple(balls)), expected)
 
+    def test_tuples(self):
+        for p in TREES:
+            for balls in some_lists(p):
+                one, tree = balls[0], some_tree(p, balls)
+                for call in (reach, middle, least_total, hang_together):
+                    same(self, call(p, tuple(balls)), call(p, balls))
+                for call in (far, total):
+                    same(self, call(p, tuple(balls), one), call(p, balls, one))
+                for call in (leaves, peeled):
+                    same(self, call(p, tuple(tree)), call(p, tree))
+                same(self, pieces(p, tuple(tree), one), pieces(p, tree, one))
+                same(self, cut(p, tuple(tree), (ROOT, EVEN)), cut(p, tree, (ROOT, EVEN)))
+
     def test_named_middles(self):
         same(self, middle(2, [THREE]), ("ball", THREE))
         same(self, middle(2, [THREE, THREE]), ("ball", THREE))
@@ -93,15 +106,15 @@ class Middles(unittest.TestCase):
             self.assertEqual(call(), before)
 
 
+def some_tree(p, balls):
+    """The least tree of a list, in no order."""
+    found = TREES[p].hull(balls)
+    random.Random(len(found)).shuffle(found)
+    return found
+
+
 def some_trees(p):
-    lists = [balls for balls in some_lists(p)]
-    chance = random.Random(p + 1)
-    trees = []
-    for balls in lists:
-        found = list(TREES[p].hull(balls))
-        chance.shuffle(found)
-        trees.append(found)
-    return trees
+    return [some_tree(p, balls) for balls in some_lists(p)]
 
 
 class Trees(unittest.TestCase):
