@@ -4,6 +4,8 @@ from ballmoves.errors import BadBall
 from ballmoves.fractions import fraction, is_fraction, is_number, minus, plus, times_of
 from ballmoves.primes import has_parts, parts, power_of, prime_power, rest, times_in
 
+ROOT = (0, (0, 1))
+
 
 def is_below(p, n, q):
     """Whether q is below p ** n; q is from 0 on, its lower number a power of p."""

@@ -91,6 +91,19 @@ def sum_of(m):
     return m[0] + m[3]
 
 
+def under_root(m):
+    """(a + d) (a + d) less four times the size: 0 if a move keeps just one point, or all."""
+    a, b, c, d = m
+    return (a - d) * (a - d) + 4 * b * c
+
+
+def bracket(one, other):
+    """The four numbers of the table G H - H G, for the tables G and H of two moves."""
+    a, b, c, d = one
+    e, f, g, h = other
+    return (b * g - f * c, (a - d) * f - b * (e - h), c * (e - h) - (a - d) * g, c * f - g * b)
+
+
 def cross(q, r):
     """The size of the table that has two points as its columns: 0 if they are equal."""
     return q[0] * r[1] - q[1] * r[0]

@@ -6,7 +6,8 @@ import unittest
 FOLDER = os.path.join(os.path.dirname(os.path.abspath(__file__)), "examples")
 
 # The order of the interface: later examples use the names that earlier ones set.
-HEADINGS = ["errors", "fractions", "points", "primes", "digits", "balls", "roads", "middles", "moves", "texts", "leads"]
+HEADINGS = ["errors", "fractions", "points", "primes", "digits", "balls", "roads", "middles", "moves", "texts", "leads",
+            "kinds", "kept", "ends", "words", "rounds"]
 
 
 def read_examples(heading):

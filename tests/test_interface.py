@@ -26,6 +26,13 @@ INTERFACE = {
               "list_text(moves)", "read_fraction(text)", "read_point(text)", "read_ball(p, text)", "read_move(text)",
               "read_word(text)", "read_list(text)"],
     "leads": ["led(p, m, ball)", "told_at(p, m, ball)", "moving(p, one, other)"],
+    "kinds": ["kind(p, m)", "judge_kind(p, m, value)", "stretch(p, m)"],
+    "kept": ["on_line(p, m, ball)", "line_from(p, m, ball, k)", "keeps(p, m, ball)", "gate(p, m, ball)",
+             "depth(p, m, ball)", "centre(p, m)", "judge_centre(p, m, value)"],
+    "ends": ["ends(p, m)", "toward(p, m, ball, n)", "shared_ends(p, m, other)"],
+    "words": ["is_word(value, many)", "back_word(word)", "shortened(word)", "joined(one, other)", "words(many, n)",
+              "word_move(moves, word)"],
+    "rounds": ["parted(word)", "turnings(word)", "root(word)", "turning(one, other)"],
 }
 
 

@@ -34,3 +34,15 @@ def unchanged(test, function, *args):
 def same(test, one, other):
     """Two values are equal, and of the same kinds at any depth."""
     test.assertEqual(deep(one), deep(other))
+
+
+def broken(value):
+    """A value of a fixed form with some part of another kind, one more, or one less: never of that form."""
+    if isinstance(value, tuple):
+        found = [list(value), value[:-1], value + value[-1:], {0: value}]
+        for k in range(len(value)):
+            found += [value[:k] + (part,) + value[k + 1:] for part in broken(value[k])]
+        return found
+    if isinstance(value, str):
+        return [value + "s", value[:-1], value.upper(), (value,), None]
+    return [None, str(value), (value,), [value]] + [sign for sign in (True, False) if sign == value]
