@@ -75,3 +75,9 @@ def word_move(moves, word):
         else:
             found = after(found, back(moves[k]))
     return found
+
+
+def short_words(many):
+    """The words of one letter of moves, and then of two letters of unlike ones, the lesser number first."""
+    pairs = [((i, 1), (j, 1)) for i in range(many) for j in range(i + 1, many)]
+    return [((k, 1),) for k in range(many)] + pairs

@@ -33,6 +33,15 @@ INTERFACE = {
     "words": ["is_word(value, many)", "back_word(word)", "shortened(word)", "joined(one, other)", "words(many, n)",
               "word_move(moves, word)"],
     "rounds": ["parted(word)", "turnings(word)", "root(word)", "turning(one, other)"],
+    "places": ["is_place(p, value)", "half_steps(p, one, other)", "keeps_place(p, m, place)", "gate_place(p, m)",
+               "gates(p, moves)", "place(p, moves)", "judge_place(p, moves, value)"],
+    "common": ["common_balls(p, moves, ball, n)", "nearest_common(p, moves, ball)", "keeping(p, moves, n)"],
+    "grids": ["told_by(t, m)", "is_whole_at(t, moves)", "is_same_grid(t, u)", "balls_of(primes, t)", "grid_of(pairs)",
+              "grid_form(t)"],
+    "whole": ["bad_primes(moves)", "whole(moves)", "judge_whole(moves, value)", "grids_near(moves, n)", "order(m)",
+              "orders(moves)"],
+    "lines": ["lines(p, g, h)"],
+    "sides": ["four_sides(p, g, h)", "judge_sides(p, g, h, value)"],
 }
 
 
