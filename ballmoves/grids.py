@@ -33,7 +33,7 @@ def balls_of(primes, t):
 
 def lower_times(p, ball):
     """How often p must be in a number that makes q and p ** n of a ball whole."""
-    return max(0, -ball[0], times_in(p, ball[1][1]))
+    return max(-ball[0], times_in(p, ball[1][1]))
 
 
 def grid_of(pairs):

@@ -189,6 +189,14 @@ class Place(unittest.TestCase):
             turned = [after(t, after((0, p, 1, 0), back(t))), (1, p ** 3, 0, 1)]
             same(self, place(p, turned), gates(p, turned)[0])
 
+    def test_far_from_the_first_ball(self):
+        # The gates are told by their steps from (0, (0, 1)), not from a neighbour of it.
+        for p in (2, 3):
+            for t in [(p, 0, 0, 1), (1, 0, 0, p), (p, 1, 0, 1), (p * p, 1, 0, 1), (1, 1, 0, p * p)]:
+                turned = [after(t, after(m, back(t))) for m in [(1, 1, 0, 1), (1, 0, 1, 1)]]
+                for moves in ([STILL] + turned, turned + [STILL], [turned[0], STILL, turned[1]]):
+                    same(self, place(p, moves), ("ball", led(p, t, ROOT)))
+
     def test_least_numbers(self):
         moves = [STILL, (0, 2, 1, 0), (1, 1, 0, 1), (0, 2, 1, 0)]
         same(self, place(2, moves), ("stretches", ((1, 1), (2, 1))))
