@@ -10,10 +10,8 @@ from ballmoves.roads import on_road, steps, towards
 
 def near_root(p, n):
     """An integer whose square is near, but not equal to n, which is not 0; None if n is no square by p."""
-    times = times_in(p, n)
-    if times & 1 == 1:
-        return None
-    scale = power_of(p, times // 2)
+    scale = power_of(p, times_in(p, n) // 2)
+    # If p divides the rest, it is no square, and none is found.
     rest = n // (scale * scale)
     if p > 2:
         roots = [k for k in range(1, p) if (k * k - rest) % p == 0]

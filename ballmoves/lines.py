@@ -18,10 +18,11 @@ def look_at_stretches(p, g, h):
 
 
 def led_to_nothing(table):
-    """The point that a table of size 0, not 0 all over, leads to 0."""
-    a, b, c, d = table
-    if a == 0 and b == 0:
-        return point(-d, c)
+    """The point that a table (a, b, c, -a) of size 0, not 0 all over, leads to 0."""
+    a, b = table[:2]
+    # If b is 0, so is a, and the table leads (x, y) to (0, c x).
+    if b == 0:
+        return (0, 1)
     return point(-b, a)
 
 
