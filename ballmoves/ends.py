@@ -64,9 +64,8 @@ def shared_ends(p, m, other):
     """How many ends two moves both keep; None if both keep all."""
     if m == STILL:
         return ends(p, other)
-    if other == STILL:
-        return ends(p, m)
     between = bracket(m, other)
+    # So it is with (1, 0, 0, 1), too, which keeps all ends.
     if between == (0, 0, 0, 0):
         return ends(p, m)
     if size(between) == 0:

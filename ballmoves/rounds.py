@@ -7,7 +7,7 @@ def parted(word):
     """The words u and c of which u, c and the back of u make the shortened word, c as short as can be."""
     whole = shortened(word)
     k = 0
-    while len(whole) - 2 * k > 1 and whole[k] == back_letter(whole[-1 - k]):
+    while k < len(whole) // 2 and whole[k] == back_letter(whole[-1 - k]):
         k += 1
     return (whole[:k], whole[k:len(whole) - k])
 
@@ -15,7 +15,7 @@ def parted(word):
 def shortest(word):
     """The shortest beginning of a word of which the word is so many copies; () of ()."""
     for many in range(1, len(word)):
-        if len(word) % many == 0 and word[:many] * (len(word) // many) == word:
+        if word[:many] * (len(word) // many) == word:
             return word[:many]
     return word
 
