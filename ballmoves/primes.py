@@ -1,8 +1,7 @@
 """Primes to 97, how often they divide, and rests by their powers."""
 
-from math import isqrt
-
 from ballmoves.errors import TooGreat
+from ballmoves.factors import least_great
 from ballmoves.fractions import is_number
 
 PRIMES = (2, 3, 5, 7, 11, 13, 17, 19, 23, 29, 31, 37, 41, 43, 47, 53, 59, 61, 67, 71, 73, 79, 83, 89, 97)
@@ -24,17 +23,6 @@ def primes_of(n):
     if left > 1:
         raise TooGreat(least_great(left))
     return found
-
-
-def least_great(n):
-    """The least prime number that divides n, which is above 1, where no prime to 97 does."""
-    # Each prime number above 97 is a multiple of six, less or more by one.
-    for six in range(102, isqrt(n) + 2, 6):
-        if n % (six - 1) == 0:
-            return six - 1
-        if n % (six + 1) == 0:
-            return six + 1
-    return n
 
 
 def times_in(p, n):

@@ -55,6 +55,15 @@ class BadPrimes(unittest.TestCase):
                     unchanged(self, call, moves)
                 same(self, caught.exception.prime, prime)
 
+    def test_what_the_package_made(self):
+        # The sizes are products of prime numbers that are all far above 97.
+        one, other = (999983, 0, 0, 999979), (999961, 0, 0, 999959)
+        for m, prime in [(power(one, 7), 999979), (after(one, other), 999959), (told_by((1, 5, 2, 2000013), TWICE), 2000003)]:
+            with self.assertRaises(TooGreat) as caught:
+                bad_primes([STILL, m])
+            same(self, caught.exception.prime, prime)
+        same(self, bad_primes([power((2, 1, 0, 97), 200)]), [2, 97])
+
     def test_great_sizes(self):
         same(self, bad_primes([(999999, 1, -1, 1)]), [2, 5])
         same(self, bad_primes([(2 ** 19, 0, 0, 3 ** 12)]), [2, 3])
