@@ -28,9 +28,9 @@ def four_sides(p, g, h):
     return two_sides(p, g, first) + two_sides(p, h, first)
 
 
-def is_four_sides(p, value):
-    """Whether any value is a tuple of four sides."""
-    return isinstance(value, tuple) and len(value) == 4 and all([is_side(p, side) for side in value])
+def is_sides(p, value, many):
+    """Whether any value is a tuple of so many sides."""
+    return isinstance(value, tuple) and len(value) == many and all([is_side(p, side) for side in value])
 
 
 def leads_well(p, m, one, other):
@@ -39,15 +39,21 @@ def leads_well(p, m, one, other):
     return lies_in(p, (led(p, m, v), led(p, m, u)), other)
 
 
-def judge_sides(p, g, h, value):
-    """None if any value is four sides of two moves, else its first fault."""
-    if not is_four_sides(p, value):
+def sides_fault(p, moves, value):
+    """None if any value is two sides of each move of a list, as four sides are of two; else its first fault."""
+    many = 2 * len(moves)
+    if not is_sides(p, value, many):
         return ("form",)
-    for i in range(4):
-        for j in range(i + 1, 4):
+    for i in range(many):
+        for j in range(i + 1, many):
             if not are_apart(p, value[i], value[j]):
                 return ("meet", i, j)
-    for k, m in enumerate((g, h)):
+    for k, m in enumerate(moves):
         if not leads_well(p, m, value[2 * k], value[2 * k + 1]):
             return ("led", k)
     return None
+
+
+def judge_sides(p, g, h, value):
+    """None if any value is four sides of two moves, else its first fault."""
+    return sides_fault(p, (g, h), value)

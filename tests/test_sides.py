@@ -30,13 +30,18 @@ def around(p, sides):
 
 
 def slow_fault(p, g, h, sides):
-    """The first fault of four sides, looked for ball by ball around them."""
+    """The first fault of four sides."""
+    return slow_fault_of_many(p, [g, h], sides)
+
+
+def slow_fault_of_many(p, moves, sides):
+    """The first fault of two sides of each move, looked for ball by ball around them."""
     balls = around(p, sides)
     lots = [{ball for ball in balls if steps(p, ball, v) < steps(p, ball, u)} for u, v in sides]
-    for i, j in product(range(4), repeat=2):
+    for i, j in product(range(len(sides)), repeat=2):
         if i < j and lots[i] & lots[j]:
             return ("meet", i, j)
-    for k, m in enumerate((g, h)):
+    for k, m in enumerate(moves):
         u, v = sides[2 * k + 1]
         for ball in balls:
             there = led(p, m, ball)
