@@ -66,14 +66,19 @@ def words(many, n):
     return found
 
 
+def letter_move(moves, letter):
+    """The move of a letter."""
+    k, s = letter
+    if s == 1:
+        return moves[k]
+    return back(moves[k])
+
+
 def word_move(moves, word):
     """The move that is made of the letters' moves, the last letter's first."""
     found = STILL
-    for k, s in word:
-        if s == 1:
-            found = after(found, moves[k])
-        else:
-            found = after(found, back(moves[k]))
+    for letter in word:
+        found = after(found, letter_move(moves, letter))
     return found
 
 

@@ -7,7 +7,8 @@ FOLDER = os.path.join(os.path.dirname(os.path.abspath(__file__)), "examples")
 
 # The order of the interface: later examples use the names that earlier ones set.
 HEADINGS = ["errors", "fractions", "points", "primes", "digits", "balls", "roads", "middles", "moves", "texts", "leads",
-            "kinds", "kept", "ends", "words", "rounds", "places", "common", "grids", "whole", "lines", "sides"]
+            "kinds", "kept", "ends", "words", "rounds", "places", "common", "grids", "whole", "lines", "sides",
+            "shorten", "lists", "spelling", "many", "counts", "orbits", "loads", "book", "deeds", "house", "console"]
 
 
 def read_examples(heading):

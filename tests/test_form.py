@@ -155,6 +155,37 @@ class Form(unittest.TestCase):
                     if isinstance(node.value, str):
                         self.assertNotIn("%", node.value, (name, node.lineno))
 
+    def test_classes(self):
+        """No name is a method and an attribute of one class; attributes are set off names, and read only if some class sets them."""
+        stored, read, methods = set(), set(), set()
+        for name, tree in trees():
+            for node in ast.walk(tree):
+                if isinstance(node, ast.ClassDef):
+                    own = [told.name for told in node.body if isinstance(told, ast.FunctionDef)]
+                    self.assertEqual(len(set(own)), len(own), (name, node.name))
+                    methods |= set(own)
+                    set_here = {told.attr for told in ast.walk(node) if isinstance(told, ast.Attribute) and isinstance(told.ctx, ast.Store)}
+                    self.assertFalse(set_here & set(own), (name, node.name))
+                if isinstance(node, ast.Attribute) and isinstance(node.ctx, ast.Store):
+                    self.assertIsInstance(node.value, ast.Name, (name, node.lineno))
+                    stored.add(node.attr)
+                elif isinstance(node, ast.Attribute):
+                    read.add(node.attr)
+        self.assertLessEqual(read, stored | methods | METHODS)
+
+    def test_handlers(self):
+        for name, tree in trees():
+            own = top_names(tree)[0]
+            for node in ast.walk(tree):
+                if isinstance(node, ast.ExceptHandler):
+                    told = node.type.elts if isinstance(node.type, ast.Tuple) else [node.type]
+                    self.assertLessEqual({error.id for error in told}, set(own), (name, node.lineno))
+
+    def test_barred_words(self):
+        barred = r"\b(type|typing|enum|Enum|Flag|Generic|Protocol|ABC|namedtuple|dataclass|_wall|mro|law|elements|register)\b"
+        for name, text in files():
+            self.assertNotRegex(text, barred, name)
+
     def test_identity_and_sets(self):
         for name, tree in trees():
             for node in ast.walk(tree):

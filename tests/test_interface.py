@@ -42,6 +42,32 @@ INTERFACE = {
               "orders(moves)"],
     "lines": ["lines(p, g, h)"],
     "sides": ["four_sides(p, g, h)", "judge_sides(p, g, h, value)"],
+    "shorten": ["changed(changes)", "shorten(p, g, h)", "judge_shorten(p, g, h, value)"],
+    "lists": ["kept_points(m)", "kept_by_all(moves)", "shift(p, m, point)", "list_kind(p, moves)",
+              "judge_list(p, moves, value)"],
+    "spelling": ["tight(p, g, h, sides)", "spelled(p, g, h, sides, ball)"],
+    "many": ["judge_many(p, moves, value)", "many_sides(p, moves)", "tight_many(p, moves, sides)",
+             "spelled_many(p, moves, sides, ball)", "outside(p, sides)", "word_of(p, moves, sides, m)",
+             "told_over(p, moves, sides, others)", "grown(p, g, h, sides, n)"],
+    "counts": ["balls_at(p, n)", "meets(p, one, other, n, k)", "kept_at(p, m, ball, n)", "kept_within(p, m, ball, n)",
+               "from_some(p, m, ball)"],
+    "orbits": ["orbit(p, moves, ball, most)", "leading(p, moves, one, other, most)",
+               "judge_leading(p, moves, one, other, value)", "reached(p, moves, ball, n, most)",
+               "lots(p, moves, balls, most)"],
+    "loads": ["is_load(p, value)", "load(p, rows)", "joined_loads(p, one, n, other)", "weight(load, ball)",
+              "led_load(p, m, load)", "spread(p, load, n)", "rule(p, n, k)", "walks(p, way, n)", "gathered(p, load)"],
+    "book": ["value_of(state, name)", "length_of(state, name)", "uses(state, name)", "users(state, name)",
+             "hanging(state, name)", "in_turn(state)", "state_text(state)"],
+    "deeds": ["behind(state, deed)", "deed_text(deed)", "read_deed(text)"],
+    "house": ["would_stand(house, deeds)", "tried(house, deeds)", "changed(house, one, other)"],
+}
+
+CLASSES = {
+    ("house", "House"): ["__init__(self)", "do(self, deed)", "undo(self)", "redo(self)", "branch(self, name)",
+                         "go(self, name)", "present(self)", "state(self)", "state_at(self, number)", "__len__(self)",
+                         "here(self)", "branches(self)", "trail(self, name)", "place(self, name)", "log(self)",
+                         "merge(self, name)", "twin(self)", "__eq__(self, other)"],
+    ("console", "Console"): ["__init__(self)", "house(self)", "say(self, line)"],
 }
 
 
@@ -50,10 +76,10 @@ def parsed(name):
         return ast.parse(file.read())
 
 
-def headings(name):
-    """The functions that a file itself defines, as the interface writes them."""
+def headings(body):
+    """The functions that a file or a class itself defines, as the interface writes them."""
     found = []
-    for node in parsed(name).body:
+    for node in body:
         if isinstance(node, ast.FunctionDef):
             found.append(node.name + "(" + ", ".join(told.arg for told in node.args.args) + ")")
     return found
@@ -62,9 +88,17 @@ def headings(name):
 class Interface(unittest.TestCase):
     def test_functions(self):
         for name, functions in INTERFACE.items():
-            defined = headings(name)
+            defined = headings(parsed(name).body)
             for function in functions:
                 self.assertIn(function, defined, name)
+
+    def test_classes(self):
+        for (name, told), methods in CLASSES.items():
+            classes = [node for node in parsed(name).body if isinstance(node, ast.ClassDef) and node.name == told]
+            self.assertEqual(len(classes), 1)
+            defined = headings(classes[0].body)
+            for method in methods:
+                self.assertIn(method, defined, told)
 
 
 if __name__ == "__main__":
