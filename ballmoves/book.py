@@ -4,12 +4,12 @@ from ballmoves.errors import UnknownName
 from ballmoves.texts import move_text
 from ballmoves.words import word_move
 
-MOST_LETTERS = 8
+LONGEST_NAME = 8
 
 
 def is_name(value):
     """Whether any value is a name."""
-    if not isinstance(value, str) or not 1 <= len(value) <= MOST_LETTERS:
+    if not isinstance(value, str) or not 1 <= len(value) <= LONGEST_NAME:
         return False
     return all(["a" <= sign <= "z" for sign in value])
 

@@ -9,6 +9,12 @@ from values import NEVER, deep, same, unchanged
 CALLS = (value_of, length_of, uses, users, hanging)
 
 
+class Names(unittest.TestCase):
+    def test_lengths_of_names(self):
+        state = {"a": ("move", STILL), "abcdefgh": word("a")}
+        same(self, [uses(state, "abcdefgh"), users(state, "a")], [["a"], ["abcdefgh"]])
+
+
 class Values(unittest.TestCase):
     def test_values(self):
         for state in STATES:

@@ -52,7 +52,7 @@ class IsLoad(unittest.TestCase):
         wrong = [((ROOT, 0),), ((ROOT, True),), ((ROOT, False),), ((ROOT, None),), ((ROOT, "1"),), ((ROOT,),), ((ROOT, 1, 1),), (ROOT, 1),
                  [(ROOT, 1)], ([ROOT, 1],), ((ROOT, 1), (ROOT, 1)), ((EVEN, 1), (ROOT, 1)), (((0, (1, 2)), 1), (ROOT, 1)),
                  (((0, (3, 4)), 1), ((0, (1, 2)), 1)), ((ROOT, 1), (EVEN, 1), (EVEN, 2)), ((ROOT, 1), (ODD, 1), (EVEN, 1)),
-                 (((0, (1, 3)), 1),), (((0, (2, 2)), 1),), (((True, (0, 1)), 1),), (((0, (0, True)), 1),), ((ROOT, 1), None), ((1, ROOT),),
+                 ((EVEN, 1), ((0, (1, 2)), 1)), (((0, (1, 3)), 1),), (((0, (2, 2)), 1),), (((True, (0, 1)), 1),), (((0, (0, True)), 1),), ((ROOT, 1), None), ((1, ROOT),),
                  {ROOT: 1}, (((0, (1, 1)), 1),), (((1, (3, 2)), 1), (EVEN, 1)), ((ROOT, (1, 1)),), ((ROOT, [1]),)]
         values = wrong + [value for value in NEVER if value != ()] + [(row,) for row in broken((ROOT, 1))]
         for value in values:
